@@ -1,0 +1,1 @@
+"""Programs of machine tools, read line by line, become moves."""
